@@ -55,20 +55,26 @@ def all_states(count):
     return rows
 
 
-def voltage_between(found, a, b):
-    return minus(node_voltage(found, a), node_voltage(found, b))
-
-
 def node_voltage(found, node):
     return NOTHING if node == 0 else found[node - 1]
 
 
+def voltage_of(network, found, k):
+    """The voltage of element k, of T the first pair's."""
+    part = network.parts[k]
+    return minus(node_voltage(found, part.a), node_voltage(found, part.b))
+
+
+def current_of(network, found, k):
+    """The current of element k, of T the first pair's. M has none, and must not be asked for."""
+    return found[network.spots[k]]
+
+
 def diodes_hold(network, states, found):
     for k, state in zip(network.diodes, states):
-        part = network.parts[k]
-        if state == 1 and above(NOTHING, found[network.spots[k]]):
+        if state == 1 and above(NOTHING, current_of(network, found, k)):
             return False
-        if state == 0 and above(voltage_between(found, part.a, part.b), part.q):
+        if state == 0 and above(voltage_of(network, found, k), network.parts[k].q):
             return False
     return True
 

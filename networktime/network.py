@@ -40,6 +40,10 @@ class Network:
         self.diodes = [k for k in range(len(parts)) if parts[k].kind == DIODE]
         self.links = [links_of(parts, k) for k in range(len(parts))]
 
+    def kind_of(self, k):
+        """The kind of element k, None if there is no such element."""
+        return self.parts[k].kind if k < len(self.parts) else None
+
 
 def links_of(parts, k):
     """The coils whose currents make up coil k's voltage, itself first, each with its number."""

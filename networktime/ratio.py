@@ -1,6 +1,6 @@
 """Fractions as pairs: a numerator, and a denominator above 0.
 
-They need not be in lowest terms: a run only compares and rounds them, and both go without.
+They need not be in lowest terms: a run only compares and rounds them, and both go without. What is told must be.
 """
 
 NOTHING = (0, 1)
@@ -16,6 +16,12 @@ def common_divisor(x, y):
         one = other
         other = rest
     return one
+
+
+def lowest(x):
+    """The fraction in lowest terms."""
+    divisor = common_divisor(x[0], x[1])
+    return (x[0] // divisor, x[1] // divisor)
 
 
 def plus(x, y):

@@ -5,6 +5,9 @@ from networktime.simulator import Simulator
 BEGIN = 1
 START = 2
 STEP = 3
+NOW = 4
+IS_ON = 5
+KEPT = 6
 
 
 class UnknownCall(ValueError):
@@ -58,4 +61,11 @@ def answer_next(simulator, reader):
         return simulator.start(rule, hn, hd, bits)
     if call == STEP:
         return simulator.step(reader.take())
+    if call == NOW:
+        what = reader.take()
+        return simulator.now(what, reader.take())
+    if call == IS_ON:
+        return simulator.is_on(reader.take())
+    if call == KEPT:
+        return simulator.kept(reader.take())
     raise UnknownCall(f"no call has the number {call}")

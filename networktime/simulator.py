@@ -1,15 +1,17 @@
 """The object that the calls are made on, and its run."""
 
 from networktime.faults import fault_of
-from networktime.kinds import is_kept
-from networktime.laws import Laws, all_states, voltage_between
+from networktime.kinds import DIODE, is_kept
+from networktime.laws import Laws, all_states, current_of, voltage_of
 from networktime.network import NUMBER_MOST, Network, is_network, parts_of
-from networktime.ratio import NOTHING, power_of_two, quotient, rounded
+from networktime.quantities import quantity
+from networktime.ratio import NOTHING, lowest, power_of_two, quotient, rounded
 from networktime.waves import length_of, waves_of
 
 RULE_MOST = 1
 BITS_MOST = 64
 STEPS_MOST = 100
+TIME = 4
 
 
 class Run:
@@ -25,9 +27,12 @@ class Run:
         self.moment = moment
         self.memory = kept_of(network, moment, self.fineness)
 
+    def time_after(self, steps):
+        return (steps * self.width[0], self.width[1])
+
     def advance(self):
         """Makes a step; answers whether it could be made."""
-        time = ((self.made + 1) * self.width[0], self.width[1])
+        time = self.time_after(self.made + 1)
         moment = self.laws.first_moment([self.moment.states] + self.rows, time, self.memory)
         if moment is None:
             return False
@@ -79,6 +84,34 @@ class Simulator:
                 return [0, made]
         return [0, n]
 
+    def now(self, what, k):
+        if self.run is None:
+            return [-8]
+        if what == TIME:
+            told = self.run.time_after(self.run.made)
+        else:
+            told = quantity(self.network, self.run.moment.found, what, k)
+        if told is None:
+            return [-3]
+        return [0] + list(lowest(told))
+
+    def is_on(self, k):
+        if self.run is None:
+            return [-8]
+        if self.network.kind_of(k) != DIODE:
+            return [-3]
+        return [0, self.run.moment.states[self.network.diodes.index(k)]]
+
+    def kept(self, k):
+        if self.run is None:
+            return [-8]
+        if not is_kept(self.network.kind_of(k)):
+            return [-3]
+        told = [0]
+        for value in self.run.memory[k]:
+            told.extend(lowest(value))
+        return told
+
 
 def is_width(hn, hd):
     return 1 <= hn and hn <= NUMBER_MOST and 1 <= hd and hd <= NUMBER_MOST
@@ -95,8 +128,8 @@ def kept_of(network, moment, fineness):
     kept = []
     for k, part in enumerate(network.parts):
         if is_kept(part.kind):
-            voltage = voltage_between(moment.found, part.a, part.b)
-            current = moment.found[network.spots[k]]
+            voltage = voltage_of(network, moment.found, k)
+            current = current_of(network, moment.found, k)
             kept.append((rounded(voltage, fineness), rounded(current, fineness)))
         else:
             kept.append(None)

@@ -99,14 +99,40 @@ def step(n):
     return [3, n]
 
 
+def now(what, k=0):
+    return [4, what, k]
+
+
+def is_on(k):
+    return [5, k]
+
+
+def kept(k):
+    return [6, k]
+
+
+def looks(nodes, parts):
+    """Every call that tells something of a run, and those just behind the last node and the last element."""
+    calls = [now(4)] + [now(0, node) for node in range(nodes + 2)]
+    for k in range(len(parts) + 1):
+        calls += [now(1, k), now(2, k), now(3, k), is_on(k), kept(k)]
+    return calls
+
+
+def told(*values):
+    """The answer that tells these fractions."""
+    return [0] + [x for value in values for x in (Fraction(value).numerator, Fraction(value).denominator)]
+
+
 def ask(*calls):
     """The answers to the calls on one new object, a list each."""
+    assert 1 <= len(calls) <= 100, len(calls)
     numbers = answers([number for call in calls for number in call])
-    told = []
+    answered = []
     while numbers:
-        told.append(numbers[1:1 + numbers[0]])
+        answered.append(numbers[1:1 + numbers[0]])
         numbers = numbers[1 + numbers[0]:]
-    return told
+    return answered
 
 
 def answer_last(*calls):
@@ -132,9 +158,10 @@ def steps_with(nodes, parts, waves, watch, values, rule=0, h=1, bits=64, n=None)
     """
     h = Fraction(h)
     n = len(values) - 1 if n is None else n
-    told = ask(watched(nodes, parts, waves, watch, values, h), start(rule, h.numerator, h.denominator, bits), step(n))
-    assert told[0] == [0], told
-    return None if told[1] == [-4] else told[2][1]
+    network = watched(nodes, parts, waves, watch, values, h)
+    answered = ask(network, start(rule, h.numerator, h.denominator, bits), step(n))
+    assert answered[0] == [0], answered
+    return None if answered[1] == [-4] else answered[2][1]
 
 
 def assert_course(test, nodes, parts, waves, watch, values, **how):

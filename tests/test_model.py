@@ -5,7 +5,7 @@ import unittest
 from fractions import Fraction
 
 from helper import C, D, E, F, G, H, I, L, M, O, R, S, T, V
-from helper import net, wave
+from helper import net, told, wave
 from networktime.simulator import Simulator
 
 ONE = "one"
@@ -259,23 +259,36 @@ class Beside(unittest.TestCase):
     def compare_steps(self, simulator, model):
         made = 0
         could = True
-        self.assert_same(simulator.run, model)
+        self.assert_same(simulator, model)
         while could and made < 8:
             before = model.states
             could = model.step()
             self.assertEqual(simulator.step(1), [0, 1 if could else 0])
-            self.assert_same(simulator.run, model)
+            self.assert_same(simulator, model)
             made += 1 if could else 0
             self.seen["row changed" if model.states != before else "row stayed"] += 1
         self.seen["eight steps" if made == 8 else "none" if made == 0 else "ended"] += 1
 
-    def assert_same(self, run, model):
-        self.assertEqual(tuple([state == 1 for state in run.moment.states]), model.states)
-        self.assertEqual(Fraction(run.made * run.width[0], run.width[1]), model.time)
-        found = [Fraction(*x) for x in run.moment.found]
+    def assert_same(self, simulator, model):
+        self.assertEqual(simulator.now(4, 0), told(model.time))
+        for node in range(model.nodes + 1):
+            self.assertEqual(simulator.now(0, node), told(model.values.get(("u", node), 0)))
+        self.assertEqual(simulator.now(0, model.nodes + 1), [-3])
+        for k, part in enumerate(model.parts):
+            self.assert_same_part(simulator, model, k, part[0])
+        found = [Fraction(*x) for x in simulator.run.moment.found]
         self.assertEqual(found, [model.values[name] for name in model.names()])
-        kept = [None if pair is None else [Fraction(*x) for x in pair] for pair in run.memory]
-        self.assertEqual(kept, model.kept)
+
+    def assert_same_part(self, simulator, model, k, kind):
+        quantities = [simulator.now(what, k) for what in (1, 2, 3)]
+        if kind == 3:
+            self.assertEqual(quantities, [[-3]] * 3)
+        else:
+            current, volts = model.values["i", k], model.volts(k, model.values)
+            self.assertEqual(quantities, [told(current), told(volts), told(current * volts)])
+        on = [0, int(model.states[model.diodes.index(k)])] if kind == 13 else [-3]
+        self.assertEqual(simulator.is_on(k), on)
+        self.assertEqual(simulator.kept(k), told(*model.kept[k]) if kind in (1, 2) else [-3])
 
     def test_networks(self):
         for seed in range(500):
